@@ -1,0 +1,163 @@
+"""What the tests share: claims to ask about, things of all kinds, and answers found the slow way.
+
+The slow ways draw nothing from the program, so that both can be held against one another.
+"""
+
+import itertools
+import random
+
+SIDES = ("all", "some")
+TRUTHS = (False, True)
+
+
+def nested(depth, kind):
+    """Tuples or lists within one another, so many deep."""
+    thing = kind()
+    for _ in range(depth - 1):
+        thing = kind([thing])
+    return thing
+
+
+def picks_within(depth, word):
+    """Picks or each within one another, so many deep."""
+    thing = ("kept",)
+    for _ in range(depth):
+        thing = ("pick", True, thing) if word == "pick" else ("each", thing, thing)
+    return thing
+
+
+# No claim, no play of one name or more, no tree that is a plan: things of all kinds that [2] names.
+THINGS = [
+    0, 1, -1, 2, 10 ** 30 - 1, -(10 ** 30 - 1), True, False, None,
+    "", "all", "some", "kept", "lost", "pick", "each", "a b\tc\n~", "x" * 6000,
+    [], [[]], [()], ((),), ([],), ((), (), ()), [(), ()], [[], []], ((), []), ([], ()), (None,), (None, None),
+    (0,), (1,), ("",), ("all",), ("some", "all"), ("kept", "kept"), ("kept",) * 3, "kept,",
+    nested(20, tuple), nested(20, list), (nested(19, list), nested(19, tuple)), [nested(19, tuple)],
+    [0] * 6999, (0,) * 6999, ((),) * 6999, [[]] * 3000, (10 ** 29, -10 ** 29), (True, 1), (0, False),
+    ("kept", ()), ("lost",), ("lost", 10 ** 30 - 1), ("lost", None), ("lost", "0"), ("lost", (0,)), ("lost", [0]),
+    ("lost", 0, 0), ("pick",), ("pick", True), ("pick", None, None), ("each",), ("each", None), ("each", None, None),
+    ("each", 0, 1), ([], True, ("kept",)), ((), ("kept",), ("kept",)), (None, True, ("kept",)),
+    ("picks", True, ("kept",)), ("Each", ("kept",), ("kept",)), ["kept"], ["lost", 0], "lost 0",
+]
+
+
+def is_right(literal, full):
+    """Whether a literal is right in a full play."""
+    return full[abs(literal) - 1] is (literal > 0)
+
+
+def is_won_by_some(claim, full):
+    """Whether each row has a right literal in a full play."""
+    return all(any(is_right(literal, full) for literal in row) for row in claim[1])
+
+
+def full_plays(many, play=()):
+    """The full plays of so many names that begin with a play."""
+    return [play + rest for rest in itertools.product(TRUTHS, repeat=many - len(play))]
+
+
+def plays(many):
+    """All plays of so many names: fewer picks first, and of as many the least first."""
+    return [play for length in range(many + 1) for play in itertools.product(TRUTHS, repeat=length)]
+
+
+def winners(claim):
+    """Each play's winner, by going back from the full plays."""
+    many = len(claim[0])
+    table = {}
+    for play in reversed(plays(many)):
+        if len(play) == many:
+            table[play] = "some" if is_won_by_some(claim, play) else "all"
+        else:
+            chooser = claim[0][len(play)]
+            behind = [table[play + (truth,)] for truth in TRUTHS]
+            other = "some" if chooser == "all" else "all"
+            table[play] = chooser if chooser in behind else other
+    return table
+
+
+def is_right_plan(claim, side, tree, play=()):
+    """Whether a tree is a plan of the side behind a play, by a look at all full plays behind each end."""
+    many = len(claim[0])
+    if tree[0] == "kept":
+        return side == "some" and all(is_won_by_some(claim, full) for full in full_plays(many, play))
+    if tree[0] == "lost":
+        return side == "all" and 0 <= tree[1] < len(claim[1]) and is_lost_by_all(claim, claim[1][tree[1]], play)
+    if len(play) == many or (claim[0][len(play)] == side) != (tree[0] == "pick"):
+        return False
+    if tree[0] == "pick":
+        return is_right_plan(claim, side, tree[2], play + (tree[1],))
+    return all(is_right_plan(claim, side, tree[1 + truth], play + (truth,)) for truth in TRUTHS)
+
+
+def is_lost_by_all(claim, row, play):
+    """Whether the row is lost in each full play behind the play in which All picks its open literals wrong."""
+    open_of_all = [k for k in row if abs(k) > len(play) and claim[0][abs(k) - 1] == "all"]
+    for full in full_plays(len(claim[0]), play):
+        picked_wrong = not any(is_right(literal, full) for literal in open_of_all)
+        if picked_wrong and any(is_right(literal, full) for literal in row):
+            return False
+    return True
+
+
+def trees(depth, numbers):
+    """All trees of at most so many picks or each within one another, with these rows' numbers."""
+    found = [("kept",)] + [("lost", number) for number in numbers]
+    if depth > 0:
+        lesser = trees(depth - 1, numbers)
+        found += [("pick", truth, tree) for truth in TRUTHS for tree in lesser]
+        found += [("each", no, yes) for no in lesser for yes in lesser]
+    return found
+
+
+def rows_over(many):
+    """All rows over so many names."""
+    found = []
+    for signs in itertools.product((-1, 0, 1), repeat=many):
+        found.append(tuple(sign * k for k, sign in enumerate(signs, start=1) if sign))
+    return found
+
+
+def tiny_claims(most_rows):
+    """All claims of at most two names with at most so many unlike rows."""
+    found = []
+    for many in range(3):
+        for kinds in itertools.product(SIDES, repeat=many):
+            for count in range(most_rows + 1):
+                found += [(kinds, rows) for rows in itertools.combinations(rows_over(many), count)]
+    return found
+
+
+def some_claim(chance, many, count, share=0.5):
+    """A claim of so many names and rows, by chance; share is how often a row has a name."""
+    kinds = tuple(chance.choice(SIDES) for _ in range(many))
+    rows = []
+    for _ in range(count):
+        names = [k for k in range(1, many + 1) if chance.random() < share]
+        rows.append(tuple(chance.choice((k, -k)) for k in names))
+    return (kinds, tuple(rows))
+
+
+def chance_claims(seed, how_many, most_names=5, most_rows=8):
+    """Claims by chance, the same ones for the same seed."""
+    chance = random.Random(seed)
+    found = []
+    for _ in range(how_many):
+        many = chance.randint(0, most_names)
+        found.append(some_claim(chance, many, chance.randint(0, most_rows), chance.choice((0.4, 0.6, 0.8))))
+    return found
+
+
+def great_claims(seed):
+    """Claims of eight names: of twenty rows, and of more rows, to a thousand, some won by Some, some by All."""
+    chance = random.Random(seed)
+    found = [some_claim(chance, 8, 20, 0.5) for _ in range(6)]
+    found += [some_claim(chance, 8, count, 0.7) for count in (21, 100, 1000)]
+    found += [(kinds, rows * (1000 // max(1, len(rows)))) for kinds, rows in found[:3]]
+    equal = tuple((-k, k + 4) for k in range(1, 5)) + tuple((k, -k - 4) for k in range(1, 5))
+    found.append((("all",) * 4 + ("some",) * 4, equal * 125))
+    found.append((("some",) * 4 + ("all",) * 4, equal * 125))
+    late = tuple(row + (8,) for row in rows_over(7))
+    found.append((("all", "some", "all", "some", "all", "some", "all", "some"), late[:1000]))
+    found.append((("all", "some", "all", "some", "all", "some", "some", "all"), late[-1000:]))
+    return found

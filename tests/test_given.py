@@ -1,0 +1,98 @@
+"""[2]: what is handed in stays as it was, what is told is the asker's own, and what numbers and truths are."""
+
+import copy
+import unittest
+
+from allsome.claims import is_claim, is_kept, is_lost, is_play, left
+from allsome.games import good_picks, parted, winner
+from allsome.plans import is_plan, plan
+from tests.helper import THINGS, chance_claims, plays
+
+CLAIM = (("some", "all", "some"), ((1, 2, -3), (-2, 3), (1, 3)))
+
+
+def all_answers(claim, other):
+    """What is told of a claim and of each of its plays."""
+    told = [is_claim(claim), plan(claim), parted(claim, other), parted(other, claim)]
+    for play in plays(len(claim[0])):
+        told += [is_play(claim, play), left(claim, play), winner(claim, play), good_picks(claim, play)]
+        told += [is_kept(row, play) for row in claim[1]] + [is_lost(row, play) for row in claim[1]]
+    for side in ("all", "some"):
+        told += [is_plan(claim, side, plan(claim)[1])]
+    return told
+
+
+class HandedInTest(unittest.TestCase):
+    def test_any_thing_stays_as_it_was(self):
+        for thing in THINGS:
+            before = copy.deepcopy(thing)
+            is_claim(thing)
+            is_play(CLAIM, thing)
+            is_plan(CLAIM, "some", thing)
+            is_plan(CLAIM, "all", thing)
+            self.assertEqual(thing, before)
+
+    def test_lists_within_stay_as_they_were(self):
+        claim = (["some"], [[1], [-1]])
+        play = [True]
+        tree = ("pick", True, ["each", ("kept",), [("kept",)]])
+        before = copy.deepcopy((claim, play, tree))
+        is_claim(claim)
+        is_play(CLAIM, play)
+        is_plan(CLAIM, "some", tree)
+        self.assertEqual((claim, play, tree), before)
+
+    def test_a_thing_changed_later_is_told_of_anew(self):
+        part = []
+        thing = ("pick", True, part)
+        self.assertIs(is_plan((("some",), ()), "some", thing), False)
+        part.append("kept")
+        self.assertIs(is_plan((("some",), ()), "some", thing), False)
+        self.assertEqual(part, ["kept"])
+
+    def test_claims_and_plays_stay_as_they_were(self):
+        for kinds, rows in chance_claims(31, 40):
+            one, other = (kinds, rows), (kinds, rows[1:])
+            before = copy.deepcopy((one, other))
+            all_answers(one, other)
+            self.assertEqual((one, other), before)
+
+
+class ToldTest(unittest.TestCase):
+    def test_a_told_list_is_the_asker_s_own(self):
+        for claim in [CLAIM, (("some",), ()), (("some",), ((1,),)), (("all",), ()), ((), ())]:
+            for play in plays(len(claim[0])):
+                first = good_picks(claim, play)
+                kept = list(first)
+                first.append("x")
+                first.reverse()
+                self.assertEqual(good_picks(claim, play), kept)
+                self.assertIsNot(good_picks(claim, play), good_picks(claim, play))
+                first = good_picks(claim, play)
+                first.clear()
+                self.assertEqual(good_picks(claim, play), kept)
+
+    def test_nothing_hangs_on_what_was_asked_ahead(self):
+        claims = chance_claims(32, 30)
+        pairs = [((kinds, rows), (kinds, rows[1:])) for kinds, rows in claims]
+        ahead = [all_answers(one, other) for one, other in pairs]
+        back = [all_answers(one, other) for one, other in reversed(pairs)]
+        self.assertEqual(ahead, back[::-1])
+
+
+class NumbersAndTruthsTest(unittest.TestCase):
+    def test_truths_are_no_whole_numbers(self):
+        self.assertIs(is_claim((("some",), ((1,),))), True)
+        self.assertIs(is_claim((("some",), ((True,),))), False)
+        self.assertIs(is_claim((("some",), ((False,),))), False)
+        for number, answer in ((0, True), (1, True), (False, False), (True, False)):
+            self.assertIs(is_plan(((), ((), ())), "all", ("lost", number)), answer)
+
+    def test_numbers_are_no_truths(self):
+        for truth, answer in ((False, True), (True, True), (0, False), (1, False)):
+            self.assertIs(is_play((("some",), ()), (truth,)), answer)
+            self.assertIs(is_plan((("some",), ()), "some", ("pick", truth, ("kept",))), answer)
+
+
+if __name__ == "__main__":
+    unittest.main()
