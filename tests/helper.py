@@ -61,13 +61,14 @@ def plays(many):
     return [play for length in range(many + 1) for play in itertools.product(TRUTHS, repeat=length)]
 
 
-def winners(claim):
-    """Each play's winner, by going back from the full plays."""
+def winners(claim, terms=()):
+    """Each play's winner, by going back from the full plays; those with all literals of a term right count as kept."""
     many = len(claim[0])
     table = {}
     for play in reversed(plays(many)):
         if len(play) == many:
-            table[play] = "some" if is_won_by_some(claim, play) else "all"
+            kept = is_won_by_some(claim, play) or any(all(is_right(k, play) for k in term) for term in terms)
+            table[play] = "some" if kept else "all"
         else:
             chooser = claim[0][len(play)]
             behind = [table[play + (truth,)] for truth in TRUTHS]
@@ -107,6 +108,103 @@ def trees(depth, numbers):
         lesser = trees(depth - 1, numbers)
         found += [("pick", truth, tree) for truth in TRUTHS for tree in lesser]
         found += [("each", no, yes) for no in lesser for yes in lesser]
+    return found
+
+
+def may_end(claim, side, play):
+    """Whether a plan of the side may end behind a play, by the picked literals alone."""
+    picked = {k if truth else -k for k, truth in enumerate(play, start=1)}
+    unkept = [row for row in claim[1] if not picked & set(row)]
+    if side == "some":
+        return not unkept
+    return any(all(claim[0][abs(k) - 1] == "all" for k in row if abs(k) > len(play)) for row in unkept)
+
+
+def fewest_ends(claim):
+    """The winner and the fewest ends of its plans, by going back from the full plays."""
+    table = winners(claim)
+    fewest = {}
+    for play in reversed(plays(len(claim[0]))):
+        who = table[play]
+        if may_end(claim, who, play):
+            fewest[play] = 1
+        else:
+            behind = [fewest[play + (truth,)] for truth in TRUTHS if table[play + (truth,)] == who]
+            fewest[play] = min(behind) if claim[0][len(play)] == who else sum(behind)
+    return table[()], fewest[()]
+
+
+def lessened(kinds, side, row):
+    """A row without those literals of the side behind which it has none of the other's."""
+    others = [abs(k) for k in row if kinds[abs(k) - 1] != side]
+    return tuple(k for k in row if abs(k) <= max(others, default=0))
+
+
+def joined(one, other, name):
+    """All literals of both rows but name and its opposite, or None where they can't be joined."""
+    if name not in one or -name not in other:
+        return None
+    rest = set(one) - {name} | set(other) - {-name}
+    if any(-literal in rest for literal in rest):
+        return None
+    return tuple(sorted(rest, key=abs))
+
+
+def terms_for(claim):
+    """All terms of which each row of the claim has a literal."""
+    return [term for term in rows_over(len(claim[0])) if all(set(term) & set(row) for row in claim[1])]
+
+
+def first_steps(claim, side):
+    """All steps of the side's paper that need no other one."""
+    if side == "all":
+        return [("row", k) for k in range(len(claim[1]))]
+    return [("term", term) for term in terms_for(claim)]
+
+
+def made(claim, side, steps):
+    """The rows or terms that right steps make, or those ahead of the first that makes none."""
+    found = []
+    for step in steps:
+        row = None
+        if step[0] in ("row", "term"):
+            row = claim[1][step[1]] if step[0] == "row" else step[1]
+        elif step[0] == "less":
+            row = lessened(claim[0], side, found[step[1]])
+        elif claim[0][step[3] - 1] != side:
+            row = joined(found[step[1]], found[step[2]], step[3])
+        if row is None:
+            return found
+        found.append(row)
+    return found
+
+
+def chance_steps(chance, claim, side, how_many):
+    """At most so many right steps of the side's paper, by chance."""
+    firsts = first_steps(claim, side)
+    steps = []
+    names = [k for k, kind in enumerate(claim[0], start=1) if kind != side]
+    while firsts and len(steps) < how_many:
+        tried = chance.choice(firsts)
+        if steps and chance.random() < 0.7:
+            i, j = chance.randrange(len(steps)), chance.randrange(len(steps))
+            tried = ("joined", i, j, chance.choice(names)) if names and chance.random() < 0.8 else ("less", i)
+        if len(made(claim, side, steps + [tried])) > len(steps):
+            steps.append(tried)
+        else:
+            steps.append(chance.choice(firsts))
+    return steps
+
+
+def moved_on(steps, by):
+    """The same steps with so many others ahead of them."""
+    found = []
+    for step in steps:
+        if step[0] == "less":
+            step = ("less", step[1] + by)
+        elif step[0] == "joined":
+            step = ("joined", step[1] + by, step[2] + by, step[3])
+        found.append(step)
     return found
 
 

@@ -4,11 +4,23 @@ import copy
 import unittest
 
 from allsome.claims import is_claim, is_kept, is_lost, is_play, left
+from allsome.errors import NoStep
+from allsome.fewest import ends, least_plan
 from allsome.games import good_picks, parted, winner
 from allsome.plans import is_plan, plan
-from tests.helper import THINGS, chance_claims, plays
+from allsome.rowpapers import is_row_paper, row_paper, rows_of
+from allsome.termpapers import is_term_paper, term_paper, terms_of
+from tests.helper import THINGS, chance_claims, first_steps, plays
 
 CLAIM = (("some", "all", "some"), ((1, 2, -3), (-2, 3), (1, 3)))
+PAPERS = {"all": (row_paper, rows_of, is_row_paper), "some": (term_paper, terms_of, is_term_paper)}
+
+
+def paper_answers(claim):
+    """What is told of a claim's papers."""
+    told_paper, made_of, is_paper = PAPERS[winner(claim, ())]
+    steps = told_paper(claim)
+    return [steps, made_of(claim, steps), is_paper(claim, steps), is_paper(claim, steps[:-1])]
 
 
 def all_answers(claim, other):
@@ -19,7 +31,7 @@ def all_answers(claim, other):
         told += [is_kept(row, play) for row in claim[1]] + [is_lost(row, play) for row in claim[1]]
     for side in ("all", "some"):
         told += [is_plan(claim, side, plan(claim)[1])]
-    return told
+    return told + [least_plan(claim), ends(plan(claim)[1])] + paper_answers(claim)
 
 
 class HandedInTest(unittest.TestCase):
@@ -30,6 +42,8 @@ class HandedInTest(unittest.TestCase):
             is_play(CLAIM, thing)
             is_plan(CLAIM, "some", thing)
             is_plan(CLAIM, "all", thing)
+            is_row_paper(CLAIM, thing)
+            is_term_paper(CLAIM, thing)
             self.assertEqual(thing, before)
 
     def test_lists_within_stay_as_they_were(self):
@@ -49,6 +63,32 @@ class HandedInTest(unittest.TestCase):
         part.append("kept")
         self.assertIs(is_plan((("some",), ()), "some", thing), False)
         self.assertEqual(part, ["kept"])
+
+    def test_steps_stay_as_they_were(self):
+        for claim in chance_claims(33, 60):
+            for side, (told_paper, made_of, is_paper) in PAPERS.items():
+                steps = first_steps(claim, side)[:20]
+                if winner(claim, ()) == side:
+                    steps = told_paper(claim)
+                before = copy.deepcopy(steps)
+                made_of(claim, steps)
+                is_paper(claim, steps)
+                self.assertEqual(steps, before)
+                spoilt = steps + [["less", [0]]] + steps
+                before = copy.deepcopy(spoilt)
+                self.assertRaises(NoStep, made_of, claim, spoilt)
+                is_paper(claim, spoilt)
+                self.assertEqual(spoilt, before)
+
+    def test_steps_changed_later_change_nothing_told(self):
+        claim = (("some",), ((1,), (-1,)))
+        steps = row_paper(claim)
+        rows = rows_of(claim, steps)
+        kept = list(rows)
+        steps.clear()
+        self.assertEqual(rows, kept)
+        self.assertIs(is_row_paper(claim, steps), False)
+        self.assertEqual(rows_of(claim, steps), [])
 
     def test_claims_and_plays_stay_as_they_were(self):
         for kinds, rows in chance_claims(31, 40):
@@ -71,6 +111,31 @@ class ToldTest(unittest.TestCase):
                 first = good_picks(claim, play)
                 first.clear()
                 self.assertEqual(good_picks(claim, play), kept)
+
+    def test_a_told_list_of_steps_or_rows_is_the_asker_s_own(self):
+        for claim in chance_claims(34, 60) + [((), ()), ((), ((),))]:
+            told_paper, made_of, is_paper = PAPERS[winner(claim, ())]
+            kept = (told_paper(claim), made_of(claim, told_paper(claim)))
+            steps = told_paper(claim)
+            rows = made_of(claim, steps)
+            self.assertIsNot(rows, steps)
+            for told in (steps, rows):
+                told.append("x")
+                told.reverse()
+                told[0] = None
+            self.assertEqual((told_paper(claim), made_of(claim, kept[0])), kept)
+            self.assertIs(is_paper(claim, kept[0]), True)
+            steps.clear()
+            rows.clear()
+            self.assertEqual((told_paper(claim), made_of(claim, kept[0])), kept)
+
+    def test_the_rows_of_no_steps_are_a_new_list(self):
+        for made_of in (rows_of, terms_of):
+            steps = []
+            rows = made_of(CLAIM, steps)
+            rows.append("x")
+            self.assertEqual(steps, [])
+            self.assertEqual(made_of(CLAIM, []), [])
 
     def test_nothing_hangs_on_what_was_asked_ahead(self):
         claims = chance_claims(32, 30)
