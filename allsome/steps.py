@@ -28,18 +28,27 @@ def lessened(kinds, side, row):
     return row[:stays]
 
 
+def without(row, literal):
+    """The row without this literal."""
+    return tuple([other for other in row if other != literal])
+
+
+def both(one, other):
+    """All literals of both rows, or None where some name is there both ways."""
+    told = list(one)
+    for literal in other:
+        if -literal in one:
+            return None
+        if literal not in one:
+            told.append(literal)
+    return tuple(sorted(told, key=abs))
+
+
 def joined(one, other, name):
     """All literals of both rows but name and its opposite, or None where they can't be joined by this name."""
     if name not in one or -name not in other:
         return None
-    rest = [literal for literal in one if literal != name]
-    for literal in other:
-        if literal != -name:
-            if -literal in rest:
-                return None
-            if literal not in rest:
-                rest.append(literal)
-    return tuple(sorted(rest, key=abs))
+    return both(without(one, name), without(other, -name))
 
 
 def made_by_less(kinds, side, made, step):

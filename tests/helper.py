@@ -196,6 +196,30 @@ def chance_steps(chance, claim, side, how_many):
     return steps
 
 
+def chance_paper(chance, claim, side, most=200):
+    """A paper of the side's that comes to the empty row by steps of chance, or None where chance found none."""
+    steps = first_steps(claim, side)
+    chance.shuffle(steps)
+    steps = steps[:40]
+    rows = made(claim, side, steps)
+    names = [k for k, kind in enumerate(claim[0], start=1) if kind != side]
+    for _ in range(40 * most):
+        if not steps or len(steps) >= most:
+            return None
+        if () in rows:
+            return steps[:rows.index(()) + 1]
+        i, j = chance.randrange(len(steps)), chance.randrange(len(steps))
+        step, row = ("less", i), lessened(claim[0], side, rows[i])
+        if names and chance.random() < 0.8:
+            name = chance.choice(names)
+            step, row = ("joined", i, j, name), joined(rows[i], rows[j], name)
+        # Mostly new rows, but not these alone.
+        if row is not None and (row not in rows or chance.random() < 0.1):
+            steps.append(step)
+            rows.append(row)
+    return None
+
+
 def moved_on(steps, by):
     """The same steps with so many others ahead of them."""
     found = []
@@ -206,6 +230,54 @@ def moved_on(steps, by):
             step = ("joined", step[1] + by, step[2] + by, step[3])
         found.append(step)
     return found
+
+
+def last_away(claim):
+    """The unlike rows where the last name is put away, and the claim that is told of them."""
+    kinds, name = claim[0], len(claim[0])
+    rows = {frozenset(row) for row in claim[1]}
+    if kinds[-1] == "all":
+        unlike = {row - {name, -name} for row in rows}
+    else:
+        unlike = {row for row in rows if not row & {name, -name}}
+        for one in [row for row in rows if name in row]:
+            for other in [row for row in rows if -name in row]:
+                both = (one | other) - {name, -name}
+                if len({abs(literal) for literal in both}) == len(both):
+                    unlike.add(both)
+    stay = [row for row in unlike if not any(other < row for other in unlike)]
+    return unlike, (kinds[:-1], tuple(sorted(tuple(sorted(row, key=abs)) for row in stay)))
+
+
+def parts(kinds, side):
+    """The names of the side, each with each choice of the other one's names ahead of it, rising."""
+    found = []
+    for k, kind in enumerate(kinds, start=1):
+        if kind == side:
+            ahead = len([other for other in kinds[:k - 1] if other != side])
+            found += [(k, choice) for choice in itertools.product(TRUTHS, repeat=ahead)]
+    return sorted(found)
+
+
+def plays_by(kinds, side, full_plan):
+    """The full plays in which the side picks by its full plan, a truth for each part."""
+    picks = dict(zip(parts(kinds, side), full_plan, strict=True))
+    found = []
+    for choice in itertools.product(TRUTHS, repeat=len([kind for kind in kinds if kind != side])):
+        play, seen = (), 0
+        for k, kind in enumerate(kinds, start=1):
+            if kind == side:
+                play += (picks[(k, choice[:seen])],)
+            else:
+                play += (choice[seen],)
+                seen += 1
+        found.append(play)
+    return found
+
+
+def full_plan_wins(claim, side, full_plan):
+    """Whether the side wins each full play by its full plan."""
+    return all(is_won_by_some(claim, play) is (side == "some") for play in plays_by(claim[0], side, full_plan))
 
 
 def rows_over(many):

@@ -3,17 +3,22 @@
 import copy
 import unittest
 
+from allsome.away import put_away
+from allsome.bypapers import by_rows, by_terms
 from allsome.claims import is_claim, is_kept, is_lost, is_play, left
+from allsome.counted import how_many_kept, how_many_plans
 from allsome.errors import NoStep
 from allsome.fewest import ends, least_plan
 from allsome.games import good_picks, parted, winner
 from allsome.plans import is_plan, plan
 from allsome.rowpapers import is_row_paper, row_paper, rows_of
+from allsome.spread import keeps, spread
 from allsome.termpapers import is_term_paper, term_paper, terms_of
 from tests.helper import THINGS, chance_claims, first_steps, plays
 
 CLAIM = (("some", "all", "some"), ((1, 2, -3), (-2, 3), (1, 3)))
 PAPERS = {"all": (row_paper, rows_of, is_row_paper), "some": (term_paper, terms_of, is_term_paper)}
+BY = {"all": by_rows, "some": by_terms}
 
 
 def paper_answers(claim):
@@ -31,7 +36,20 @@ def all_answers(claim, other):
         told += [is_kept(row, play) for row in claim[1]] + [is_lost(row, play) for row in claim[1]]
     for side in ("all", "some"):
         told += [is_plan(claim, side, plan(claim)[1])]
-    return told + [least_plan(claim), ends(plan(claim)[1])] + paper_answers(claim)
+    told += [least_plan(claim), ends(plan(claim)[1])] + paper_answers(claim)
+    told += [put_away(claim, many, 2000) for many in range(len(claim[0]) + 1)]
+    told += [spread(claim), keeps(claim, (True,) * len(spread(claim)[0])), how_many_kept(claim)]
+    return told + [how_many_plans(claim, side) for side in ("all", "some")] + picks_by_paper(claim)
+
+
+def picks_by_paper(claim):
+    """The truths that the winner picks by the told paper, when the other one always picks yes."""
+    side = winner(claim, ())
+    steps = PAPERS[side][0](claim)
+    play = ()
+    for kind in claim[0]:
+        play += (BY[side](claim, steps, play) if kind == side else True,)
+    return [play]
 
 
 class HandedInTest(unittest.TestCase):
@@ -44,6 +62,7 @@ class HandedInTest(unittest.TestCase):
             is_plan(CLAIM, "all", thing)
             is_row_paper(CLAIM, thing)
             is_term_paper(CLAIM, thing)
+            keeps(CLAIM, thing)
             self.assertEqual(thing, before)
 
     def test_lists_within_stay_as_they_were(self):
@@ -73,6 +92,8 @@ class HandedInTest(unittest.TestCase):
                 before = copy.deepcopy(steps)
                 made_of(claim, steps)
                 is_paper(claim, steps)
+                if winner(claim, ()) == side and claim[0][:1] == (side,):
+                    BY[side](claim, steps, ())
                 self.assertEqual(steps, before)
                 spoilt = steps + [["less", [0]]] + steps
                 before = copy.deepcopy(spoilt)
