@@ -331,3 +331,150 @@ def great_claims(seed):
     found.append((("all", "some", "all", "some", "all", "some", "all", "some"), late[:1000]))
     found.append((("all", "some", "all", "some", "all", "some", "some", "all"), late[-1000:]))
     return found
+
+
+def lost_in(row, many):
+    """The full plays of so many names in which a row is lost."""
+    names = {abs(literal): literal < 0 for literal in row}
+    return set(itertools.product(*[[names[k]] if k in names else TRUTHS for k in range(1, many + 1)]))
+
+
+def gone_back(kinds, lost):
+    """Who wins where just these full plays are lost, by going back name by name."""
+    for many in range(len(kinds) - 1, -1, -1):
+        quantor = any if kinds[many] == "all" else all
+        heads = itertools.product(TRUTHS, repeat=many)
+        lost = {play for play in heads if quantor(play + (truth,) in lost for truth in TRUTHS)}
+    return "all" if () in lost else "some"
+
+
+def winner_of(claim):
+    """Who wins a claim, by going back."""
+    return gone_back(claim[0], set().union(*[lost_in(row, len(claim[0])) for row in claim[1]]))
+
+
+def chosen_rows(claim, numbers):
+    """The claim with the rows of these numbers alone."""
+    return (claim[0], tuple(claim[1][number] for number in numbers))
+
+
+def has_step(claim, one, other):
+    """Whether a pairs claim has a step from one literal to another."""
+    return tuple(sorted({-one, other}, key=abs)) in claim[1]
+
+
+def is_right_road(claim, road, start, end):
+    """Whether a list is a road from start to end, by a look at each step."""
+    if type(road) is not list or not road or (road[0], road[-1]) != (start, end):
+        return False
+    names = len(claim[0])
+    if not all(type(literal) is int and 1 <= abs(literal) <= names for literal in road):
+        return False
+    return all(has_step(claim, one, other) for one, other in zip(road, road[1:]))
+
+
+def is_right_all(claim, why):
+    """Whether a right tuple of words and roads is one of the four by which All wins."""
+    kinds, rows = claim
+    if why[0] == "empty":
+        return rows[why[1]] == ()
+    start, end = why[1][0], why[1][-1]
+    of_start, of_end = kinds[abs(start) - 1], kinds[abs(end) - 1]
+    if not is_right_road(claim, why[1], start, end):
+        return False
+    if why[0] == "meet":
+        return len(why) == 2 and of_start == of_end == "all" and start != end
+    if len(why) != 3 or not is_right_road(claim, why[2], end, start):
+        return False
+    if why[0] == "turn":
+        return of_start == "some" and end == -start
+    return why[0] == "early" and (of_start, of_end) == ("all", "some") and abs(end) < abs(start)
+
+
+def by_rule(rule, literal):
+    """The truth, or the literal of All's, by which a literal is right."""
+    told = rule[abs(literal) - 1]
+    if told is None:
+        return literal
+    if type(told) is bool:
+        return told is (literal > 0)
+    return told if literal > 0 else -told
+
+
+def is_right_rule(claim, rule):
+    """Whether by a rule each row is kept whatever All picks, by trying all picks for each row."""
+    kinds, rows = claim
+    for k, (kind, told) in enumerate(zip(kinds, rule, strict=True), start=1):
+        if (kind == "all") != (told is None):
+            return False
+        if type(told) is int and not (1 <= abs(told) < k and kinds[abs(told) - 1] == "all"):
+            return False
+    for row in rows:
+        told = [by_rule(rule, literal) for literal in row]
+        names = sorted({abs(part) for part in told if type(part) is int})
+        for picked in itertools.product((1, -1), repeat=len(names)):
+            right = [name * sign for name, sign in zip(names, picked)]
+            if not any(part in right if type(part) is int else part for part in told):
+                return False
+    return True
+
+
+def is_right_told(claim, told):
+    """Whether what is told of a pairs claim is so."""
+    if told[0] == "all":
+        return is_right_all(claim, told[1])
+    return told[0] == "some" and is_right_rule(claim, told[1])
+
+
+def chance_pairs(chance, most_names, most_rows, share=0.5):
+    """A pairs claim by chance; share is how often a name is All's."""
+    many = chance.randint(0, most_names)
+    kinds = tuple("all" if chance.random() < share else "some" for _ in range(many))
+    rows = []
+    for _ in range(chance.randint(0, most_rows)):
+        size = min(many, chance.choice((0, 1, 1) + (2,) * 40))
+        names = sorted(chance.sample(range(1, many + 1), size))
+        rows.append(tuple(chance.choice((k, -k)) for k in names))
+    return (kinds, tuple(rows))
+
+
+def kept_pairs(chance, many, count, share):
+    """A pairs claim of so many names and rows that Some wins, by a rule drawn ahead, and the rule."""
+    kinds = tuple("all" if chance.random() < share else "some" for _ in range(many))
+    rule, rows = [], []
+    for k, kind in enumerate(kinds, start=1):
+        ahead = [name for name in range(1, k) if kinds[name - 1] == "all"]
+        told = chance.choice((False, True))
+        if ahead and chance.random() < 0.6:
+            told = chance.choice(ahead) * chance.choice((1, -1))
+        rule.append(None if kind == "all" else told)
+    while len(rows) < count:
+        one, other = chance.randint(1, many), chance.randint(1, many)
+        if type(rule[one - 1]) is int and chance.random() < 0.6:
+            # A name and the one that it is picked by: only so a rule by literals is needed.
+            other = abs(rule[one - 1])
+        row = tuple(k * chance.choice((1, -1)) for k in sorted({one, other}))
+        if is_right_rule((kinds, (row,)), rule):
+            rows.append(row)
+    return (kinds, tuple(rows)), tuple(rule)
+
+
+def along(road):
+    """The rows that have a step from each literal of a road to the next."""
+    return [tuple(sorted({-one, other}, key=abs)) for one, other in zip(road, road[1:])]
+
+
+def long_roads(many):
+    """Pairs claims of so many names with roads by all of them, each with the word of what All has, or None."""
+    names = list(range(1, many + 1))
+    some = ("some",) * many
+    there = along(names)
+    found = [(some, there, None), (some, there + [(-many,)], None)]
+    found.append((some, there + [(1,), (-many,)], "turn"))
+    found.append((some, there + [(-1, -many), (1, 2), (1, -2)], "turn"))
+    found.append((some[1:] + ("all",), there, None))
+    found.append((some[1:] + ("all",), there + along([many, 1]), "early"))
+    found.append((("all",) + some[1:], there + along([many, 1]), None))
+    found.append((("all",) + some[2:] + ("all",), there, "meet"))
+    found.append((("all",) + some[1:], there + [(-1, -many)], "meet"))
+    return [((kinds, tuple(rows)), word) for kinds, rows, word in found]

@@ -1,22 +1,28 @@
 """[2]: what is handed in stays as it was, what is told is the asker's own, and what numbers and truths are."""
 
 import copy
+import random
 import unittest
 
 from allsome.away import put_away
 from allsome.bypapers import by_rows, by_terms
 from allsome.claims import is_claim, is_kept, is_lost, is_play, left
+from allsome.cores import fewest_rows, is_fewest, is_needless, lean
 from allsome.counted import how_many_kept, how_many_plans
 from allsome.errors import NoStep
 from allsome.fewest import ends, least_plan
 from allsome.games import good_picks, parted, winner
+from allsome.looker import is_told
+from allsome.moved import earliest, moved
+from allsome.pairs import is_pairs, told_pairs
 from allsome.plans import is_plan, plan
 from allsome.rowpapers import is_row_paper, row_paper, rows_of
 from allsome.spread import keeps, spread
 from allsome.termpapers import is_term_paper, term_paper, terms_of
-from tests.helper import THINGS, chance_claims, first_steps, plays
+from tests.helper import THINGS, chance_claims, chance_pairs, first_steps, long_roads, plays
 
 CLAIM = (("some", "all", "some"), ((1, 2, -3), (-2, 3), (1, 3)))
+LOST = (("some",), ((1,), (-1,)))
 PAPERS = {"all": (row_paper, rows_of, is_row_paper), "some": (term_paper, terms_of, is_term_paper)}
 BY = {"all": by_rows, "some": by_terms}
 
@@ -39,7 +45,31 @@ def all_answers(claim, other):
     told += [least_plan(claim), ends(plan(claim)[1])] + paper_answers(claim)
     told += [put_away(claim, many, 2000) for many in range(len(claim[0]) + 1)]
     told += [spread(claim), keeps(claim, (True,) * len(spread(claim)[0])), how_many_kept(claim)]
-    return told + [how_many_plans(claim, side) for side in ("all", "some")] + picks_by_paper(claim)
+    told += [how_many_plans(claim, side) for side in ("all", "some")] + picks_by_paper(claim)
+    return told + moved_answers(claim) + rows_answers(claim)
+
+
+def moved_answers(claim):
+    """What is told of a claim's names moved."""
+    names = range(1, len(claim[0]) + 1)
+    told = [moved(claim, k, q) for k in names for q in range(1, k + 1)]
+    return told + [earliest(claim, k) for k in names if claim[0][k - 1] == winner(claim, ())]
+
+
+def rows_answers(claim):
+    """What is told of the rows that matter."""
+    told = [is_needless(claim, k) for k in range(len(claim[1]))]
+    if winner(claim, ()) == "all":
+        told += [lean(claim)]
+        if len(claim[1]) <= 6:
+            told += [fewest_rows(claim), is_fewest(claim, fewest_rows(claim)), is_fewest(claim, ((), []))]
+    return told
+
+
+def some_pairs(seed):
+    """Pairs claims, small ones by chance and some with long roads."""
+    chance = random.Random(seed)
+    return [chance_pairs(chance, 6, 10) for _ in range(60)] + [claim for claim, word in long_roads(200)]
 
 
 def picks_by_paper(claim):
@@ -63,7 +93,43 @@ class HandedInTest(unittest.TestCase):
             is_row_paper(CLAIM, thing)
             is_term_paper(CLAIM, thing)
             keeps(CLAIM, thing)
+            is_fewest(LOST, thing)
+            is_fewest(LOST, ((0, 1), thing))
+            is_pairs(thing)
+            is_told(LOST, thing)
+            is_told(LOST, ("all", ("turn", thing, thing)))
             self.assertEqual(thing, before)
+
+    def test_bars_and_roads_stay_as_they_were(self):
+        for bars in [[(0,), (1,)], [(1,), (0,), (0,)], [[0], (1,)], [(0,), [[], None]], []]:
+            before = copy.deepcopy(bars)
+            is_fewest(LOST, ((0, 1), bars))
+            self.assertEqual(bars, before)
+        for roads in [[[1, -1], [-1, 1]], [[1], []], [[1, [-1]], [-1, True]], [[-1, 1, -1, 1], [1, -1]]]:
+            before = copy.deepcopy(roads)
+            is_told(LOST, ("all", ("turn", roads[0], roads[1])))
+            self.assertEqual(roads, before)
+
+    def test_bars_and_roads_changed_later_are_told_of_anew(self):
+        told = fewest_rows(LOST)
+        self.assertIs(is_fewest(LOST, told), True)
+        bar = told[1].pop()
+        self.assertIs(is_fewest(LOST, told), False)
+        told[1].insert(0, bar)
+        self.assertIs(is_fewest(LOST, told), True)
+        told = told_pairs(LOST)
+        self.assertIs(is_told(LOST, told), True)
+        told[1][1].reverse()
+        self.assertIs(is_told(LOST, told), False)
+        told[1][1].reverse()
+        self.assertIs(is_told(LOST, told), True)
+
+    def test_pairs_claims_stay_as_they_were(self):
+        for claim in some_pairs(35):
+            before = copy.deepcopy(claim)
+            is_pairs(claim)
+            is_told(claim, told_pairs(claim))
+            self.assertEqual(claim, before)
 
     def test_lists_within_stay_as_they_were(self):
         claim = (["some"], [[1], [-1]])
@@ -158,6 +224,50 @@ class ToldTest(unittest.TestCase):
             self.assertEqual(steps, [])
             self.assertEqual(made_of(CLAIM, []), [])
 
+    def test_told_lean_rows_are_the_asker_s_own(self):
+        for claim in chance_claims(36, 80) + [((), ((),)), LOST]:
+            if winner(claim, ()) == "all":
+                kept = list(lean(claim))
+                first = lean(claim)
+                first.append("x")
+                first[0] = None
+                self.assertEqual(lean(claim), kept)
+                first.clear()
+                self.assertEqual(lean(claim), kept)
+
+    def test_told_bars_are_the_asker_s_own(self):
+        for claim in chance_claims(37, 80, 5, 6) + [((), ((),)), LOST]:
+            if winner(claim, ()) == "all":
+                kept = copy.deepcopy(fewest_rows(claim))
+                first = fewest_rows(claim)
+                first[1].reverse()
+                first[1][0] = None
+                self.assertEqual(fewest_rows(claim), kept)
+                self.assertIs(is_fewest(claim, kept), True)
+                first[1].clear()
+                self.assertEqual(fewest_rows(claim), kept)
+
+    def test_told_roads_are_the_asker_s_own(self):
+        for claim in some_pairs(38):
+            told = told_pairs(claim)
+            kept = copy.deepcopy(told)
+            if told[0] == "all" and told[1][0] != "empty":
+                self.assertEqual(len({id(road) for road in told[1][1:]}), len(told[1]) - 1)
+                for road in told[1][1:]:
+                    road.reverse()
+                    road[0] = None
+                self.assertEqual(told_pairs(claim), kept)
+                for road in told[1][1:]:
+                    road.clear()
+            self.assertEqual(told_pairs(claim), kept)
+            self.assertIs(is_told(claim, kept), True)
+
+    def test_pairs_hang_on_nothing_asked_ahead(self):
+        claims = some_pairs(39)
+        ahead = [told_pairs(claim) for claim in claims]
+        back = [told_pairs(claim) for claim in reversed(claims)]
+        self.assertEqual(ahead, back[::-1])
+
     def test_nothing_hangs_on_what_was_asked_ahead(self):
         claims = chance_claims(32, 30)
         pairs = [((kinds, rows), (kinds, rows[1:])) for kinds, rows in claims]
@@ -173,6 +283,25 @@ class NumbersAndTruthsTest(unittest.TestCase):
         self.assertIs(is_claim((("some",), ((False,),))), False)
         for number, answer in ((0, True), (1, True), (False, False), (True, False)):
             self.assertIs(is_plan(((), ((), ())), "all", ("lost", number)), answer)
+
+    def test_truths_are_no_whole_numbers_in_rows_numbers(self):
+        claim = (("some",), ((1,), (-1,)))
+        self.assertIs(is_fewest(claim, ((0, 1), [(0,), (1,)])), True)
+        for thing in [((False, 1), [(0,), (1,)]), ((0, True), [(0,), (1,)]), ((0, 1), [(False,), (1,)]),
+                      ((0, 1), [(0,), (True,)]), ((0, 1), [(0,), (1,), (0, True)])]:
+            self.assertIs(is_fewest(claim, thing), False)
+
+    def test_truths_are_no_literals_of_pairs(self):
+        self.assertIs(is_pairs((("some",), ((1,),))), True)
+        self.assertIs(is_pairs((("some",), ((True,),))), False)
+        self.assertIs(is_pairs((("some",), ((False,),))), False)
+        self.assertIs(is_told(LOST, ("all", ("turn", [1, -1], [-1, 1]))), True)
+        self.assertIs(is_told(LOST, ("all", ("turn", [True, -1], [-1, True]))), False)
+        for claim, part, answer in [(((2,),), True, True), (((2,),), 1, False), (((1, -2), (-1, 2)), 1, True),
+                                    (((1, -2), (-1, 2)), True, False), (((-2,),), False, True), (((-2,),), 0, False)]:
+            self.assertIs(is_told((("all", "some"), claim), ("some", (None, part))), answer)
+        for number, answer in ((0, True), (1, True), (False, False), (True, False)):
+            self.assertIs(is_told(((), ((), ())), ("all", ("empty", number))), answer)
 
     def test_numbers_are_no_truths(self):
         for truth, answer in ((False, True), (True, True), (0, False), (1, False)):
