@@ -40,7 +40,7 @@ def lost_plays(claim):
 
 def all_wins(kinds, lost):
     """Whether All wins where just these full plays, as bits, are lost."""
-    for many in reversed(range(len(kinds))):
+    for many in range(len(kinds) - 1, -1, -1):
         half = 1 << many
         no = lost & ((1 << half) - 1)
         yes = lost >> half
@@ -91,7 +91,7 @@ def lean(claim):
     ahead = lost_ahead(lost)
     told = []
     stay = 0
-    for number in reversed(range(len(lost))):
+    for number in range(len(lost) - 1, -1, -1):
         if not all_wins(claim[0], ahead[number] | stay):
             told.append(number)
             stay |= lost[number]

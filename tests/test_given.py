@@ -9,16 +9,20 @@ from allsome.bypapers import by_rows, by_terms
 from allsome.claims import is_claim, is_kept, is_lost, is_play, left
 from allsome.cores import fewest_rows, is_fewest, is_needless, lean
 from allsome.counted import how_many_kept, how_many_plans
-from allsome.errors import NoStep
+from allsome.desk import Desk
+from allsome.errors import ClaimError, NoPick, NoRow, NoStep
 from allsome.fewest import ends, least_plan
 from allsome.games import good_picks, parted, winner
+from allsome.keeper import Keeper
 from allsome.looker import is_told
+from allsome.match import Match
 from allsome.moved import earliest, moved
 from allsome.pairs import is_pairs, told_pairs
 from allsome.plans import is_plan, plan
 from allsome.rowpapers import is_row_paper, row_paper, rows_of
 from allsome.spread import keeps, spread
 from allsome.termpapers import is_term_paper, term_paper, terms_of
+from allsome.texts import read_claim, read_tree, show_claim, show_tree
 from tests.helper import THINGS, chance_claims, chance_pairs, first_steps, long_roads, plays
 
 CLAIM = (("some", "all", "some"), ((1, 2, -3), (-2, 3), (1, 3)))
@@ -46,7 +50,13 @@ def all_answers(claim, other):
     told += [put_away(claim, many, 2000) for many in range(len(claim[0]) + 1)]
     told += [spread(claim), keeps(claim, (True,) * len(spread(claim)[0])), how_many_kept(claim)]
     told += [how_many_plans(claim, side) for side in ("all", "some")] + picks_by_paper(claim)
-    return told + moved_answers(claim) + rows_answers(claim)
+    return told + moved_answers(claim) + rows_answers(claim) + text_answers(claim)
+
+
+def text_answers(claim):
+    """What is told of a claim's texts."""
+    told = [show_claim(claim), show_tree(plan(claim)[1])]
+    return told + [read_claim(told[0]), read_tree(told[1]), read_tree(told[0])]
 
 
 def moved_answers(claim):
@@ -274,6 +284,115 @@ class ToldTest(unittest.TestCase):
         ahead = [all_answers(one, other) for one, other in pairs]
         back = [all_answers(one, other) for one, other in reversed(pairs)]
         self.assertEqual(ahead, back[::-1])
+
+
+def tried(asked, *parts):
+    """What is answered, or the refusal's name."""
+    try:
+        return asked(*parts)
+    except ClaimError as error:
+        return type(error).__name__
+
+
+# What a match, a keeper and a desk may be told, right and wrong, and what they may be asked.
+TOLD = {
+    "match": ([("pick", True), ("pick", False), ("back",), ("pick", 1), ("pick", [True])],
+              [("play",), ("turn",), ("who",), ("good",), ("left",)]),
+    "keeper": ([("put", (1, -2)), ("put", (-1, 3)), ("put", (2,)), ("put", [1]), ("put", (4,)), ("out", 0), ("out", 1),
+                ("out", True), ("back",), ("put", (-2, -3)), ("put", (-1, 2))],
+               [("claim",), ("winner",), ("plan",), ("paper",)]),
+    "desk": ([("say", row) for row in ["row 1 -2", "row -1 3", "row 2", "row 4", "row", "out 0", "out 9", "back", "row 1 2",
+                                       "row -2 -3", "kinds all x", "row -1 2", "row 0", "out 1"]],
+             [("say", row) for row in ["winner", "winner y", "good", "good n", "plan", "least", "count", "paper", "lean",
+                                       "early 1", "early 2", "show"]]),
+}
+
+
+def made(word):
+    """A match, a keeper or a desk of the same kinds."""
+    if word == "match":
+        return Match(CLAIM)
+    if word == "keeper":
+        return Keeper(CLAIM[0])
+    desk = Desk()
+    desk.say("kinds " + " ".join(CLAIM[0]))
+    return desk
+
+
+def asked_of(thing, questions):
+    """The answers to questions, each a method's name and what is handed in."""
+    return [tried(getattr(thing, parts[0]), *parts[1:]) for parts in questions]
+
+
+class KeptTest(unittest.TestCase):
+    """A match, a keeper, a desk goes by what it was told, not by what it was asked."""
+
+    def test_questions_in_another_order_twice_or_not_at_all(self):
+        chance = random.Random(40)
+        for word, (tellings, questions) in TOLD.items():
+            for _ in range(40):
+                silent, once, twice = made(word), made(word), made(word)
+                for _ in range(12):
+                    telling = [chance.choice(tellings)]
+                    told = asked_of(silent, telling)
+                    self.assertEqual(asked_of(once, telling), told)
+                    self.assertEqual(asked_of(twice, telling), told)
+                    answers = asked_of(once, questions)
+                    self.assertEqual(asked_of(twice, questions[::-1])[::-1], answers)
+                    self.assertEqual(asked_of(twice, questions), answers)
+                self.assertEqual(asked_of(silent, questions), asked_of(once, questions))
+
+    def test_two_side_by_side(self):
+        chance = random.Random(41)
+        for word, (tellings, questions) in TOLD.items():
+            for _ in range(30):
+                lists = [[chance.choice(tellings) for _ in range(10)] for _ in range(2)]
+                alone = []
+                for telling in lists:
+                    thing = made(word)
+                    alone.append((asked_of(thing, telling), asked_of(thing, questions)))
+                both = [made(word), made(word)]
+                answers = [[], []]
+                for pair in zip(*lists):
+                    for k in (0, 1):
+                        answers[k] += asked_of(both[k], [pair[k]])
+                self.assertEqual([(answers[k], asked_of(both[k], questions)) for k in (0, 1)], alone)
+
+    def test_told_lists_are_the_asker_s_own(self):
+        match, keeper = Match(CLAIM), Keeper(CLAIM[0])
+        keeper.put((1, -2))
+        for asked in (match.good, lambda: keeper.paper()[1]):
+            kept = list(asked())
+            asked().append("x")
+            asked().reverse()
+            asked().clear()
+            self.assertEqual(asked(), kept)
+
+    def test_what_is_handed_in_stays_and_is_not_kept(self):
+        match, keeper, desk = Match(CLAIM), Keeper(CLAIM[0]), made("desk")
+        for thing in [thing for thing in THINGS if type(thing) in (list, str, tuple) and thing not in ((), (1,))]:
+            before = copy.deepcopy(thing)
+            self.assertRaises(NoPick, match.pick, thing)
+            self.assertRaises(NoRow, keeper.put, thing)
+            self.assertRaises(NoRow, keeper.out, thing)
+            self.assertEqual(thing, before)
+            if type(thing) is list:
+                thing = copy.deepcopy(thing)
+                self.assertRaises(NoRow, keeper.put, thing)
+                thing.append(1)
+        self.assertEqual((match.play(), keeper.claim()), ((), (CLAIM[0], ())))
+        kinds, text = ("all", "some"), "row 1 -2"
+        keeper = Keeper(kinds)
+        keeper.put((1,))
+        desk.say(text)
+        self.assertEqual((kinds, text), (("all", "some"), "row 1 -2"))
+
+    def test_texts_stay_as_they_were(self):
+        for text in ["all some\n1 -2\n", "all some\n1 -2", "(y+|n0)", "", "x\n"]:
+            before = str(text)
+            first = (tried(read_claim, text), read_tree(text))
+            self.assertEqual(text, before)
+            self.assertEqual((tried(read_claim, text), read_tree(text)), first)
 
 
 class NumbersAndTruthsTest(unittest.TestCase):

@@ -39,6 +39,12 @@ append clear copy count endswith extend find get index insert isalnum isalpha is
 join keys ljust lower lstrip partition pop remove replace reverse rfind rjust rpartition rsplit rstrip setdefault split
 splitlines startswith strip update upper values zfill bit_length
 """.split()
+# L22: keywords of Python's own, L23: what is walked on the spot, and where.
+KEYWORDS = {"sorted": ["key", "reverse"], "min": ["key", "default"], "max": ["key", "default"], "sum": ["start"],
+            "enumerate": ["start"], "zip": ["strict"]}
+WALKED = ["zip", "enumerate", "reversed", "range"]
+WALKED_METHODS = ["items", "keys", "values"]
+WALKERS = ["list", "tuple", "dict", "sorted", "sum", "any", "all", "enumerate", "zip"]
 TWO_UNDERSCORES = ["__init__", "__eq__", "__repr__", "__str__", "__len__"]
 
 
@@ -67,6 +73,17 @@ def bound_names(node):
 def drawn_from(tree):
     """The package's modules from which a module draws."""
     return [node.module for node in ast.walk(tree) if isinstance(node, ast.ImportFrom)]
+
+
+def is_walked_at_once(node, above):
+    """Whether what stands above a call walks it on the spot."""
+    if isinstance(above, (ast.For, ast.comprehension)):
+        return above.iter is node
+    if not isinstance(above, ast.Call) or above.args[:1] != [node]:
+        return False
+    if isinstance(above.func, ast.Attribute):
+        return above.func.attr == "join" and isinstance(above.func.value, ast.Constant)
+    return above.func.id in WALKERS or (above.func.id in ("min", "max") and len(above.args) == 1)
 
 
 class LanguageTest(unittest.TestCase):
@@ -173,6 +190,59 @@ class LanguageTest(unittest.TestCase):
         for place, node in self.walk():
             if isinstance(node, ast.Call) and isinstance(node.func, ast.Attribute):
                 self.assertIn(node.func.attr, METHODS + own, place)
+
+    def test_walked_at_once(self):
+        for path, text, tree in sources():
+            for above in ast.walk(tree):
+                for node in ast.iter_child_nodes(above):
+                    func = getattr(node, "func", None)
+                    if getattr(func, "id", None) in WALKED or getattr(func, "attr", None) in WALKED_METHODS:
+                        self.assertTrue(is_walked_at_once(node, above), (path, node.lineno))
+
+    def test_keywords(self):
+        for place, node in self.walk():
+            if isinstance(node, ast.Call) and node.keywords:
+                self.assertIsInstance(node.func, ast.Name, place)
+                for keyword in node.keywords:
+                    self.assertIn(keyword.arg, KEYWORDS.get(node.func.id, []), place)
+
+    def test_no_name_is_a_method_here_and_a_value_there(self):
+        methods, values = set(), set()
+        for place, node in self.walk():
+            if isinstance(node, ast.ClassDef):
+                methods |= {part.name for part in node.body if isinstance(part, ast.FunctionDef)}
+            if isinstance(node, ast.Attribute) and isinstance(node.ctx, ast.Store):
+                self.assertIsInstance(node.value, ast.Name, place)
+                values.add(node.attr)
+        self.assertEqual(methods & values, set())
+        python_s = {name for kind in (str, int, list, dict, set, tuple, bytes) for name in vars(kind)}
+        self.assertEqual((methods | values) & python_s - set(TWO_UNDERSCORES), set())
+
+    def test_numbers_and_texts(self):
+        for place, node in self.walk():
+            if isinstance(node, ast.BinOp) and isinstance(node.op, ast.Pow):
+                self.assertIsInstance(node.right, ast.Constant, place)
+            if isinstance(node, ast.Constant) and isinstance(node.value, str):
+                self.assertNotIn("%", node.value, place)
+
+    def test_tops(self):
+        for path, text, tree in sources():
+            kept = {}
+            for part in tree.body:
+                self.assertIsInstance(part, (ast.Expr, ast.ImportFrom, ast.FunctionDef, ast.ClassDef, ast.Assign), path)
+                if isinstance(part, ast.Assign) and isinstance(part.value, (ast.List, ast.Dict)):
+                    kept[part.targets[0].id] = part
+            self.check_only_read(path, tree, kept)
+
+    def check_only_read(self, path, tree, kept):
+        """What a file's top keeps in a list or dict is read alone (L15)."""
+        for above in ast.walk(tree):
+            for node in ast.iter_child_nodes(above):
+                if isinstance(node, ast.Name) and node.id in kept and isinstance(node.ctx, ast.Load):
+                    read = isinstance(above, (ast.Compare, ast.For, ast.comprehension))
+                    read = read or (isinstance(above, ast.Subscript) and isinstance(above.ctx, ast.Load))
+                    read = read or (isinstance(above, ast.Attribute) and above.attr == "get")
+                    self.assertTrue(read, (path, node.lineno))
 
     def test_is_stands_beside_none_true_and_false(self):
         for place, node in self.walk():
